@@ -379,9 +379,11 @@ func areIncreasingElements(o Order, list []int) bool {
 }
 
 func hasEachOnce(o Order, list []int) bool {
-	if len(list) != o.Size {
-		return false
-	}
+	return len(list) == o.Size && areDifferentElements(o, list)
+}
+
+// areDifferentElements reports whether a list has only elements, and none twice.
+func areDifferentElements(o Order, list []int) bool {
 	seen := 0
 	for _, i := range list {
 		if !isElement(o, i) || hasElement(seen, i) {
