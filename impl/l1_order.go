@@ -16,15 +16,7 @@ type Order struct {
 
 // IsRelation reports whether o is a relation.
 func IsRelation(o Order) bool {
-	if o.Size < 0 || o.Size > MaxSize || len(o.Above) != o.Size {
-		return false
-	}
-	for _, set := range o.Above {
-		if set < 0 || set > fullSet(o.Size) {
-			return false
-		}
-	}
-	return true
+	return o.Size >= 0 && o.Size <= MaxSize && len(o.Above) == o.Size && areSets(o.Above, o.Size)
 }
 
 // IsOrder reports whether o is an order.
@@ -264,7 +256,9 @@ func ChainNumbers(o Order) ([]int, bool) {
 	if !ok {
 		return nil, false
 	}
-	return completeNumbers(o, len(antichain), make([]int, 0, o.Size))
+	return completeNumbers(o.Size, len(antichain), make([]int, 0, o.Size), func(numbers []int) bool {
+		return isLastApart(o, numbers)
+	})
 }
 
 // OrderText returns the Size, a :, and for each element a 1 for each element that is better than it and a 0 for each other one, in order; rows have a / between them.
@@ -272,58 +266,74 @@ func OrderText(o Order) (string, bool) {
 	if !IsRelation(o) {
 		return "", false
 	}
-	var text strings.Builder
-	text.WriteString(strconv.Itoa(o.Size))
-	text.WriteByte(':')
-	for i, set := range o.Above {
-		if i > 0 {
-			text.WriteByte('/')
-		}
-		for j := range o.Size {
-			if hasElement(set, j) {
-				text.WriteByte('1')
-			} else {
-				text.WriteByte('0')
-			}
-		}
-	}
-	return text.String(), true
+	return strconv.Itoa(o.Size) + ":" + setsText(o.Above, o.Size), true
 }
 
 // ParseOrder returns the relation with an OrderText. It fails if there is none.
 func ParseOrder(s string) (Order, bool) {
 	for size := range MaxSize + 1 {
 		rows, found := strings.CutPrefix(s, strconv.Itoa(size)+":")
-		if found {
-			return parseRows(size, rows)
+		if !found {
+			continue
+		}
+		if above, ok := parseSets(rows, size, size); ok {
+			return Order{Size: size, Above: above}, true
 		}
 	}
 	return Order{}, false
 }
 
-// parseRows reads the part of an OrderText behind the colon.
-func parseRows(size int, rows string) (Order, bool) {
-	width := size + 1 // of a row and the slash behind it, which the last row has not
-	if len(rows) != max(0, size*width-1) {
-		return Order{}, false
-	}
-	above := make([]int, size)
-	for at := range len(rows) {
-		i, j := at/width, at%width
-		switch {
-		case j == size && rows[at] == '/', j < size && rows[at] == '0':
-		case j < size && rows[at] == '1':
-			above[i] |= 1 << j
-		default:
-			return Order{}, false
+// setsText returns for each set a 1 for each element less than size that is in it and a 0 for each other one, in order; there is a / between sets.
+func setsText(sets []int, size int) string {
+	var text strings.Builder
+	for k, set := range sets {
+		if k > 0 {
+			text.WriteByte('/')
+		}
+		for i := range size {
+			if hasElement(set, i) {
+				text.WriteByte('1')
+			} else {
+				text.WriteByte('0')
+			}
 		}
 	}
-	return Order{Size: size, Above: above}, true
+	return text.String()
+}
+
+// parseSets reads what setsText writes of so many sets.
+func parseSets(s string, count int, size int) ([]int, bool) {
+	width := size + 1 // of a set and the slash behind it, which the last set has not
+	if len(s) != max(0, count*width-1) {
+		return nil, false
+	}
+	sets := make([]int, count)
+	for at := range len(s) {
+		k, i := at/width, at%width
+		switch {
+		case i == size && s[at] == '/', i < size && s[at] == '0':
+		case i < size && s[at] == '1':
+			sets[k] |= 1 << i
+		default:
+			return nil, false
+		}
+	}
+	return sets, true
 }
 
 // fullSet returns the set of the elements less than size.
 func fullSet(size int) int {
 	return 1<<size - 1
+}
+
+// areSets reports whether all sets have only elements less than size.
+func areSets(sets []int, size int) bool {
+	for _, set := range sets {
+		if set < 0 || set > fullSet(size) {
+			return false
+		}
+	}
+	return true
 }
 
 func hasElement(set int, i int) bool {
@@ -438,10 +448,9 @@ func longestList(allowed int, follow []int) []int {
 	return longest
 }
 
-// completeNumbers returns the first list of numbers less than limit that begins with the given one and in which no two indifferent elements have the same number.
-func completeNumbers(o Order, limit int, list []int) ([]int, bool) {
-	i := len(list)
-	if i == o.Size {
+// completeNumbers returns the first list of so many numbers less than limit that begins with the given one and in which each longer beginning fits. What fits must not depend on which numbers are used, only on which of them are equal.
+func completeNumbers(length int, limit int, list []int, fits func(numbers []int) bool) ([]int, bool) {
+	if len(list) == length {
 		return list, true
 	}
 	// What a greater unused number allows, the least unused one allows too, and earlier.
@@ -450,21 +459,23 @@ func completeNumbers(o Order, limit int, list []int) ([]int, bool) {
 		unused = max(unused, number+1)
 	}
 	for number := range min(limit, unused+1) {
-		if !isNumberFree(o, list, number) {
+		longer := append(list, number)
+		if !fits(longer) {
 			continue
 		}
-		if found, ok := completeNumbers(o, limit, append(list, number)); ok {
+		if found, ok := completeNumbers(length, limit, longer, fits); ok {
 			return found, true
 		}
 	}
 	return nil, false
 }
 
-// isNumberFree reports whether no element that is indifferent to the next one behind a list has a number in it.
-func isNumberFree(o Order, list []int, number int) bool {
-	indifferent := indifferentSet(o, len(list))
-	for i, other := range list {
-		if other == number && hasElement(indifferent, i) {
+// isLastApart reports whether no element before the last one of a list of numbers has its number and is indifferent to it.
+func isLastApart(o Order, numbers []int) bool {
+	last := len(numbers) - 1
+	indifferent := indifferentSet(o, last)
+	for i, number := range numbers[:last] {
+		if number == numbers[last] && hasElement(indifferent, i) {
 			return false
 		}
 	}
