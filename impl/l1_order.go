@@ -326,10 +326,15 @@ func fullSet(size int) int {
 	return 1<<size - 1
 }
 
+// isSet reports whether a set has only elements less than size.
+func isSet(set int, size int) bool {
+	return set >= 0 && set <= fullSet(size)
+}
+
 // areSets reports whether all sets have only elements less than size.
 func areSets(sets []int, size int) bool {
 	for _, set := range sets {
-		if set < 0 || set > fullSet(size) {
+		if !isSet(set, size) {
 			return false
 		}
 	}
