@@ -100,7 +100,8 @@ func comparePartAndNames(t *testing.T, o impl.Order, n *numbers) {
 	}
 }
 
-func compareTexts(t *testing.T, o impl.Order) {
+// slowOrderText returns the text of a relation, row by row.
+func slowOrderText(o impl.Order) string {
 	text := strconv.Itoa(o.Size) + ":"
 	for i, row := range gridFrom(o) {
 		if i > 0 {
@@ -110,6 +111,11 @@ func compareTexts(t *testing.T, o impl.Order) {
 			text += map[bool]string{false: "0", true: "1"}[better]
 		}
 	}
+	return text
+}
+
+func compareTexts(t *testing.T, o impl.Order) {
+	text := slowOrderText(o)
 	if got, ok := impl.OrderText(o); got != text || !ok {
 		t.Fatal("text", o, got)
 	}
